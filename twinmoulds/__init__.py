@@ -1,0 +1,1 @@
+"""Twinmoulds: sheets made by hand with two moulds, whose marks come and never go but by mending."""

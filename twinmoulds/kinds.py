@@ -1,0 +1,45 @@
+"""The plain kinds that all modules share: marks, moulds and days as numbers, and what rises."""
+
+from twinmoulds.errors import NoDay, NoMould
+
+MARKS = 8
+MOULDS = 4
+DAYS = 31
+
+
+def is_below(thing, many):
+    """Tell whether a thing is a whole number from 0 on and less than many."""
+    # Python counts True and False among the whole numbers, the program doesn't.
+    return isinstance(thing, int) and not isinstance(thing, bool) and 0 <= thing < many
+
+
+def is_mark(thing):
+    """Tell whether a thing is a mark."""
+    return is_below(thing, MARKS)
+
+
+def is_mould(thing):
+    """Tell whether a thing is a mould."""
+    return is_below(thing, MOULDS)
+
+
+def is_day(thing):
+    """Tell whether a thing is a day."""
+    return is_below(thing, DAYS)
+
+
+def is_rising(things):
+    """Tell whether each of some things, which compare with one another, is greater than the one ahead."""
+    return all([ahead < behind for ahead, behind in zip(things, things[1:])])
+
+
+def need_mould(thing):
+    """Refuse what is no mould."""
+    if not is_mould(thing):
+        raise NoMould("a mould is a whole number from 0 to 3")
+
+
+def need_day(thing):
+    """Refuse what is no day."""
+    if not is_day(thing):
+        raise NoDay("a day is a whole number from 0 to 30")
