@@ -1,5 +1,7 @@
 """The document's words, read again and apart from the program, to hold its answers against."""
 
+import itertools
+
 DAYS = range(31)
 MARKS = range(8)
 MOULDS = range(4)
@@ -93,3 +95,127 @@ def places_of(book, sheet):
     return sorted((mould, first, last) for mould in MOULDS for first in DAYS for last in DAYS
                   if first <= last and all((mould, day) in fits for day in range(first, last + 1))
                   and (mould, first - 1) not in fits and (mould, last + 1) not in fits)
+
+
+def has_life(book, mould, sheets, days):
+    """Whether the mould has a life with the book's pages and these sheets, by the one with the fewest marks."""
+    shown, lacked, gone = [[0] * 31 for turn in range(3)]
+    dated = [("made", mould, day, sheet) for day, sheet in zip(days, sheets)]
+    for word, whose, day, what in list(book) + dated:
+        if whose == mould and word == "mended":
+            gone[day] |= 1 << what
+        elif whose == mould:
+            shown[day] |= sum(1 << mark for mark in what[0])
+            lacked[day] |= sum(1 << mark for mark in what[1])
+    there = 0
+    for day in DAYS:
+        there = there & ~gone[day] | shown[day]
+        if there & (lacked[day] | gone[day]):
+            return False
+    return True
+
+
+def datings(book, mould, sheets):
+    return [days for days in itertools.product(DAYS, repeat=len(sheets)) if has_life(book, mould, sheets, days)]
+
+
+def narrowest(all_datings):
+    told = None
+    for days in sorted(all_datings):
+        if told is None or (max(days) - min(days), min(days)) < (max(told) - min(told), min(told)):
+            told = days
+    return told
+
+
+def is_laying(run, laying):
+    return laying[0] == 0 and all(set(run[ahead]) <= set(run[place])
+                                  for ahead, place in itertools.combinations(range(len(run)), 2)
+                                  if laying[ahead] == laying[place])
+
+
+def layings(run):
+    return [laying for laying in itertools.product((0, 1), repeat=len(run)) if is_laying(run, laying)]
+
+
+def breaks(laying):
+    return [place for place in range(len(laying)) if place > 0 and laying[place] == laying[place - 1]]
+
+
+def fewest_breaks_from(run, place, other):
+    """The fewest breaks on any way from a stand to the last place, None where there is no way."""
+    if place == len(run) - 1:
+        return 0
+    ways = []
+    if set(run[place]) <= set(run[place + 1]):
+        on = fewest_breaks_from(run, place + 1, other)
+        ways += [] if on is None else [on + 1]
+    if other == -1 or set(run[other]) <= set(run[place + 1]):
+        on = fewest_breaks_from(run, place + 1, place)
+        ways += [] if on is None else [on]
+    return min(ways) if ways else None
+
+
+def paper(run):
+    return tuple(tuple(fewest_breaks_from(run, place, other) for other in range(-1, place))
+                 for place in range(len(run)))
+
+
+def is_paper(run, paper):
+    """Whether a table of the right form, with numbers from 0 on and None alone, is a paper."""
+    value = {(place, at - 1): thing for place, row in enumerate(paper) for at, thing in enumerate(row)}
+    last = len(run) - 1
+    for (place, other), thing in value.items():
+        if place == last:
+            if thing != 0:
+                return False
+            continue
+        goes = []
+        if set(run[place]) <= set(run[place + 1]):
+            goes.append((value[place + 1, other], 1))
+        if other == -1 or set(run[other]) <= set(run[place + 1]):
+            goes.append((value[place + 1, place], 0))
+        if thing is None and any(on is not None for on, broken in goes):
+            return False
+        if thing is not None and any(on is not None and thing > on + broken for on, broken in goes):
+            return False
+    return True
+
+
+def can_be_one(marks, others):
+    return set(marks) <= set(others) or set(others) <= set(marks)
+
+
+def fewest_rows(heap):
+    """By a search through all ways to put the sheets into rows, one sheet after another."""
+    best = [len(heap)]
+
+    def put(place, groups):
+        if len(groups) >= best[0]:
+            return
+        if place == len(heap):
+            best[0] = len(groups)
+            return
+        for group in groups:
+            if all(can_be_one(heap[place], heap[other]) for other in group):
+                group.append(place)
+                put(place + 1, groups)
+                group.pop()
+        put(place + 1, groups + [[place]])
+
+    put(0, [])
+    return best[0]
+
+
+def are_strangers(heap, places):
+    return not any(can_be_one(heap[one], heap[other]) for one, other in itertools.combinations(places, 2))
+
+
+def most_strangers(heap):
+    return max(many for many in range(len(heap) + 1) for places in itertools.combinations(range(len(heap)), many)
+               if are_strangers(heap, places))
+
+
+def are_rows(heap, rows):
+    """Whether tuples of whole numbers are rows of a heap."""
+    return (all(rows) and sorted(place for row in rows for place in row) == list(range(len(heap)))
+            and all(set(heap[row[at]]) <= set(heap[row[at + 1]]) for row in rows for at in range(len(row) - 1)))

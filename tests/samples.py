@@ -106,6 +106,21 @@ BOOKS = [
 ]
 
 
+# None of these is a tuple of one to three sheets.
+WRONG_SHEETS_TOGETHER = ODD_THINGS + [
+    0, (), (NOTHING_SEEN,) * 4, NOTHING_SEEN, ((0,), (1,)), [NOTHING_SEEN], [NOTHING_SEEN, NOTHING_SEEN],
+    (NOTHING_SEEN, NOTHING_SEEN, [(), ()]), ((NOTHING_SEEN,),), ((NOTHING_SEEN,), (NOTHING_SEEN,)), {NOTHING_SEEN: 1},
+] + [(sheet,) for sheet in WRONG_SHEETS] + [(NOTHING_SEEN, sheet, ((0,), (1,))) for sheet in WRONG_SHEETS]
+
+# None of these is a tuple of marks, whatever their number.
+WRONG_LINES = ODD_THINGS + [
+    0, (), (0,), (0, 1), [()], [(0,), (1,)], [[0], [1]], ([0], [1]), (((0,),),), {(): ()}, ((), [0]), ((0,), 1),
+] + [(marks,) for marks in WRONG_MARKS] + [((), marks, (0,)) for marks in WRONG_MARKS]
+
+WRONG_RUNS = WRONG_LINES + [((),) * 11, tuple((mark,) for mark in (0, 1, 2, 3, 4, 5, 6, 7, 0, 1, 2)), ((),) * 500]
+WRONG_HEAPS = WRONG_LINES + [((),) * 10, tuple((mark,) for mark in (0, 1, 2, 3, 4, 5, 6, 7, 0, 1)), ((),) * 500]
+
+
 def some_sheet(chance, marks):
     has, lacks = [], []
     for mark in range(marks):
@@ -133,4 +148,26 @@ def strewn_pages(many):
     for turn in range(many):
         most, moulds, marks = chance.choice(sizes)
         told.append(some_pages(chance, most, moulds, marks, chance.choice(day_choices)))
+    return told
+
+
+def some_line(chance, many, marks):
+    """Many marks, few of them at first and more behind, so that layings and long rows are neither rare nor sure."""
+    told, grown = [], set()
+    for turn in range(many):
+        if chance.random() < 0.5:
+            grown.add(chance.randrange(marks))
+        drawn = grown if chance.random() < 0.6 else {chance.randrange(marks) for each in range(chance.randrange(4))}
+        told.append(tuple(sorted(drawn)))
+    return tuple(told)
+
+
+def strewn_lines(most, times):
+    chance = random.Random(97)
+    told = [some_line(chance, many, marks) for many in range(1, most + 1) for marks in (1, 2, 3, 5, 8)
+            for turn in range(times)]
+    for turn in range(times):
+        mixed = list(told[-1 - turn])
+        chance.shuffle(mixed)
+        told.append(tuple(mixed))
     return told

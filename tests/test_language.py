@@ -17,6 +17,14 @@ BUILT_IN = {"len", "range", "enumerate", "zip", "min", "max", "sum", "abs", "sor
             "bytes", "list", "tuple", "dict", "set", "isinstance", "ord", "repr", "any", "all", "divmod", "Exception",
             "ValueError", "TypeError", "KeyError", "IndexError", "LookupError", "ZeroDivisionError"}
 
+METHODS = {"append", "clear", "copy", "count", "endswith", "extend", "find", "get", "index", "insert", "isalnum",
+           "isalpha", "isdigit", "islower", "isspace", "isupper", "items", "join", "keys", "ljust", "lower", "lstrip",
+           "partition", "pop", "remove", "replace", "reverse", "rfind", "rjust", "rpartition", "rsplit", "rstrip",
+           "setdefault", "split", "splitlines", "startswith", "strip", "update", "upper", "values", "zfill",
+           "bit_length"}
+WALKED = {"zip", "enumerate", "reversed", "range"}
+WALKERS = {"list", "tuple", "dict", "sorted", "sum", "any", "all", "enumerate", "zip", "bytes", "min", "max"}
+
 
 def names_given(tree):
     """Every name that a file itself gives: its defs, classes, imports, parameters and locals."""
@@ -32,6 +40,28 @@ def names_given(tree):
             given.add(node.id)
         elif isinstance(node, ast.ExceptHandler) and node.name:
             given.add(node.name)
+    return given
+
+
+def with_parents(tree):
+    """Each node of a tree with the one that holds it."""
+    return [(node, holder) for holder in ast.walk(tree) for node in ast.iter_child_nodes(holder)]
+
+
+def is_call_of(node, names):
+    return isinstance(node, ast.Call) and isinstance(node.func, ast.Name) and node.func.id in names
+
+
+def names_at_top(tree):
+    """Every name that a file's top binds, as often as it does."""
+    given = []
+    for node in tree.body:
+        if isinstance(node, (ast.FunctionDef, ast.ClassDef)):
+            given.append(node.name)
+        elif isinstance(node, ast.ImportFrom):
+            given += [each.asname or each.name for each in node.names]
+        elif isinstance(node, ast.Assign):
+            given += [target.id for target in node.targets]
     return given
 
 
@@ -75,6 +105,65 @@ class Language(unittest.TestCase):
             self.assertEqual(read - given - BUILT_IN, set(), path)
             self.assertEqual(given & set(dir(builtins)) - {"__init__"}, set(), path)
             self.assertEqual([name for name in given if name.startswith("_") and name != "__init__"], [], path)
+
+    def test_tops(self):
+        for path in FILES:
+            tree = ast.parse(path.read_text())
+            self.assertTrue(all(isinstance(node, (ast.FunctionDef, ast.ClassDef, ast.ImportFrom, ast.Assign))
+                                for node in tree.body[1:]), path)
+            self.assertIsNotNone(ast.get_docstring(tree), path)
+            self.assertEqual(len(names_at_top(tree)), len(set(names_at_top(tree))), path)
+
+    def test_imports_are_drawn_from_where_they_are_defined_and_used(self):
+        for path in FILES:
+            tree = ast.parse(path.read_text())
+            read = {node.id for node in ast.walk(tree) if isinstance(node, ast.Name)}
+            for row in tree.body:
+                if isinstance(row, ast.ImportFrom):
+                    drawn = ast.parse((PACKAGE.parent / (row.module.replace(".", "/") + ".py")).read_text())
+                    defined = {name for node in drawn.body if not isinstance(node, ast.ImportFrom)
+                               for name in names_at_top(ast.Module([node], []))}
+                    self.assertLessEqual({each.name for each in row.names}, defined & read, (path, row.module))
+
+    def test_no_two_files_draw_from_one_another(self):
+        drawn = {path.stem: {row.module.split(".")[1] for row in ast.parse(path.read_text()).body
+                             if isinstance(row, ast.ImportFrom)} for path in FILES}
+        while drawn:
+            free = [name for name in drawn if not drawn[name] & set(drawn)]
+            self.assertTrue(free, drawn)
+            drawn = {name: drawn[name] for name in drawn if name not in free}
+
+    def test_locals_are_not_called_like_imports_and_classes(self):
+        for path in FILES:
+            tree = ast.parse(path.read_text())
+            top = {name for node in tree.body if isinstance(node, (ast.ImportFrom, ast.ClassDef))
+                   for name in names_at_top(ast.Module([node], []))}
+            for node in ast.walk(tree):
+                if isinstance(node, ast.FunctionDef):
+                    self.assertEqual((names_given(node) - {node.name}) & top, set(), (path, node.name))
+
+    def test_methods(self):
+        for path in FILES:
+            for node in ast.walk(ast.parse(path.read_text())):
+                if isinstance(node, ast.Call) and isinstance(node.func, ast.Attribute):
+                    self.assertIn(node.func.attr, METHODS, (path, node.lineno))
+
+    def test_is_stands_beside_none_true_and_false(self):
+        for path in FILES:
+            for node in ast.walk(ast.parse(path.read_text())):
+                if isinstance(node, ast.Compare) and any(isinstance(sign, (ast.Is, ast.IsNot)) for sign in node.ops):
+                    self.assertIn(getattr(node.comparators[0], "value", 0), (None, True, False), (path, node.lineno))
+
+    def test_what_is_walked_at_once_and_sets(self):
+        for path in FILES:
+            for node, holder in with_parents(ast.parse(path.read_text())):
+                where = (path, getattr(node, "lineno", 0))
+                if is_call_of(node, WALKED) or (isinstance(node, ast.Call) and isinstance(node.func, ast.Attribute)
+                                                and node.func.attr in ("items", "keys", "values")):
+                    self.assertTrue(isinstance(holder, (ast.For, ast.comprehension)) or is_call_of(holder, WALKERS)
+                                    or (is_call_of(node, {"range"}) and is_call_of(holder, {"reversed"})), where)
+                if is_call_of(node, {"set"}) or isinstance(node, (ast.Set, ast.SetComp)):
+                    self.assertTrue(is_call_of(holder, {"sorted", "len"}) or isinstance(holder, ast.Compare), where)
 
 
 if __name__ == "__main__":

@@ -5,6 +5,7 @@ import random
 import unittest
 
 from tests import oracle
+from tests.asking import Asking
 from tests.samples import (BOOKS, FAULTY, FULL_BOOK, NOTHING_SEEN, ODD_THINGS, WRONG_BOOKS, WRONG_DAYS, WRONG_MOULDS,
                            WRONG_SHEETS, lay, made, mended, some_sheet, strewn_pages)
 from twinmoulds import lives
@@ -284,33 +285,14 @@ CALLS = [(surely, ["book", "mould", "day"]), (is_life, ["book", "mould", "thing"
          (most_life, ["book", "mould"]), (may_be, ["book", "mould", "day", "sheet"]), (places_of, ["book", "sheet"])]
 
 
-class Refusals(unittest.TestCase):
+class Refusals(Asking, unittest.TestCase):
     """[4], [5]"""
 
-    def refused(self, due, deed, handed):
-        before = copy.deepcopy(handed)
-        with self.assertRaises(due, msg=(deed, handed)) as caught:
-            deed(*handed)
-        self.assertIs(caught.exception.__class__, due)
-        self.assertEqual(repr(handed), repr(before))
-
     def test_each_wrong_thing_by_itself(self):
-        for deed, names in CALLS:
-            for at, name in enumerate(names):
-                for wrong in WRONG.get(name, []):
-                    handed = [RIGHT[other] for other in names]
-                    handed[at] = wrong
-                    self.refused(DUE[name], deed, handed)
+        self.each_refused(CALLS, RIGHT, WRONG, DUE)
 
     def test_the_leftmost_of_several_is_refused(self):
-        chance = random.Random(3)
-        for deed, names in CALLS:
-            refusable = [name for name in names if name in DUE]
-            for many in range(2, len(refusable) + 1):
-                for wrong_ones in itertools.combinations(refusable, many):
-                    for turn in range(30):
-                        handed = [chance.choice(WRONG[name]) if name in wrong_ones else RIGHT[name] for name in names]
-                        self.refused(DUE[wrong_ones[0]], deed, handed)
+        self.leftmost_refused(CALLS, RIGHT, WRONG, DUE)
 
     def test_a_faulty_book_is_none(self):
         for laid in FAULTY:

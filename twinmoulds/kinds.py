@@ -7,10 +7,15 @@ MOULDS = 4
 DAYS = 31
 
 
+def is_number(thing):
+    """Tell whether a thing is a whole number from 0 on."""
+    # Python counts True and False among the whole numbers, the program doesn't.
+    return isinstance(thing, int) and not isinstance(thing, bool) and thing >= 0
+
+
 def is_below(thing, many):
     """Tell whether a thing is a whole number from 0 on and less than many."""
-    # Python counts True and False among the whole numbers, the program doesn't.
-    return isinstance(thing, int) and not isinstance(thing, bool) and 0 <= thing < many
+    return is_number(thing) and thing < many
 
 
 def is_mark(thing):

@@ -1,6 +1,6 @@
 """Marks, sheets and pages, the faults of laid pages, and books."""
 
-from twinmoulds.errors import NoBook, NoSheet
+from twinmoulds.errors import NoBook, NoMarks, NoSheet
 from twinmoulds.kinds import DAYS, MARKS, MOULDS, is_day, is_mark, is_mould, is_rising
 
 PAGES = 24
@@ -24,6 +24,16 @@ def is_sheet(thing):
 def are_apart(marks, others):
     """Tell whether no mark stands in both."""
     return not any([mark in others for mark in marks])
+
+
+def has_all(marks, others):
+    """Tell whether marks have all of the others."""
+    return all([mark in marks for mark in others])
+
+
+def are_laid_marks(thing, most):
+    """Tell whether a thing is a tuple of marks, one of them at least, and no more than most."""
+    return isinstance(thing, tuple) and 1 <= len(thing) <= most and all([are_marks(marks) for marks in thing])
 
 
 def is_page(thing):
@@ -88,6 +98,12 @@ def days_seen(pages, mould, mark, half):
 def days_mended(pages, mould, mark):
     """Tell the days on which the mark of the mould is mended."""
     return [page[2] for page in pages if page[0] == "mended" and page[1] == mould and page[3] == mark]
+
+
+def need_marks(thing):
+    """Refuse what are no marks."""
+    if not are_marks(thing):
+        raise NoMarks("marks are a rising tuple of whole numbers from 0 to 7")
 
 
 def need_sheet(thing):
