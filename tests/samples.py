@@ -17,6 +17,7 @@ ODD_THINGS = [
 
 WRONG_MOULDS = ODD_THINGS + [4, (), (0,), ((), ())]
 WRONG_DAYS = ODD_THINGS + [(), (0,), ((), ())]
+WRONG_SORTS = ODD_THINGS + [3, 10 ** 29, (), (0,), ((), ())]
 
 WRONG_MARKS = ODD_THINGS + [
     0, 7,
@@ -119,6 +120,12 @@ WRONG_LINES = ODD_THINGS + [
 
 WRONG_RUNS = WRONG_LINES + [((),) * 11, tuple((mark,) for mark in (0, 1, 2, 3, 4, 5, 6, 7, 0, 1, 2)), ((),) * 500]
 WRONG_HEAPS = WRONG_LINES + [((),) * 10, tuple((mark,) for mark in (0, 1, 2, 3, 4, 5, 6, 7, 0, 1)), ((),) * 500]
+
+WRONG_COUNTS = ODD_THINGS + [
+    0, 479999, (), (0,), (0, 0), (0, 0, 0, 0), [0, 0, 0], [], [(0, 0, 0)], ((0, 0, 0),), "000", "0 0 0", {0: 0},
+    (1000, 0, 0), (0, 20, 0), (0, 0, 24), (1000, 20, 24), (10 ** 29, 0, 0), (0, 10 ** 29, 0), (0, 0, 10 ** 29),
+] + [(0, 0, 0)[:at] + (wrong,) + (0, 0, 0)[at + 1:] for at in range(3)
+     for wrong in (-1, True, False, None, "0", "", (), (0,), [], [0], {}, -(10 ** 29))]
 
 
 def some_sheet(chance, marks):

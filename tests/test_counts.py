@@ -2,7 +2,7 @@ import random
 import unittest
 
 from tests.asking import Asking
-from tests.samples import ODD_THINGS
+from tests.samples import ODD_THINGS, WRONG_COUNTS
 from twinmoulds import counts
 from twinmoulds.counts import counted, sheets_in, summed
 from twinmoulds.errors import NoCount, NoNumber, TooMany
@@ -13,11 +13,6 @@ CALLS = [(counted, ["sheets"]), (sheets_in, ["count"]), (summed, ["counts"])]
 RIGHT = {"sheets": 0, "count": (0, 0, 0), "counts": []}
 WRONG_NUMBERS = [thing for thing in ODD_THINGS if thing != 31] + [
     480000, 480001, 10 ** 29, (), (0,), (0, 0, 0), "480", [480], {480: 1}]
-WRONG_COUNTS = ODD_THINGS + [
-    0, 479999, (), (0,), (0, 0), (0, 0, 0, 0), [0, 0, 0], [], [(0, 0, 0)], ((0, 0, 0),), "000", "0 0 0", {0: 0},
-    (1000, 0, 0), (0, 20, 0), (0, 0, 24), (1000, 20, 24), (10 ** 29, 0, 0), (0, 10 ** 29, 0), (0, 0, 10 ** 29),
-] + [(0, 0, 0)[:at] + (wrong,) + (0, 0, 0)[at + 1:] for at in range(3)
-     for wrong in (-1, True, False, None, "0", "", (), (0,), [], [0], {}, -(10 ** 29))]
 WRONG_LISTS = [thing for thing in ODD_THINGS if thing != []] + [
     0, (), (0, 0, 0), ((0, 0, 0),), ((0, 0, 0), (0, 0, 1)), ((0, 0, 0),) * 20, [(0, 0, 0)] * 21, [(0, 0, 0)] * 500,
     [MOST] * 21, [[(0, 0, 0)]], [[0, 0, 0]], {(0, 0, 0): 1},

@@ -22,6 +22,13 @@ METHODS = {"append", "clear", "copy", "count", "endswith", "extend", "find", "ge
            "partition", "pop", "remove", "replace", "reverse", "rfind", "rjust", "rpartition", "rsplit", "rstrip",
            "setdefault", "split", "splitlines", "startswith", "strip", "update", "upper", "values", "zfill",
            "bit_length"}
+NAMES_OUT = {"register", "mro", "elements", "open", "input", "version_info", "with_traceback", "add_note", "format",
+             "format_map", "attrgetter", "breakpoint", "builtins", "compile", "copyright", "credits", "delattr", "dir",
+             "eval", "exec", "exit", "gc", "getattr", "globals", "hasattr", "help", "id", "importlib", "license",
+             "locals", "methodcaller", "os", "quit", "setattr", "super", "vars", "sys", "args"}
+STATEMENTS = (ast.Assign, ast.AugAssign, ast.If, ast.While, ast.For, ast.Return, ast.Break, ast.Continue, ast.Pass,
+              ast.Raise, ast.Expr, ast.FunctionDef, ast.ClassDef, ast.ImportFrom)
+PYTHONS_OWN = {name for kind in (str, int, list, dict, set, bytes) for name in dir(kind)}
 WALKED = {"zip", "enumerate", "reversed", "range"}
 WALKERS = {"list", "tuple", "dict", "sorted", "sum", "any", "all", "enumerate", "zip", "bytes", "min", "max"}
 
@@ -50,6 +57,26 @@ def with_parents(tree):
 
 def is_call_of(node, names):
     return isinstance(node, ast.Call) and isinstance(node.func, ast.Name) and node.func.id in names
+
+
+def classes():
+    """Each class of the package."""
+    return [node for path in FILES for node in ast.parse(path.read_text()).body if isinstance(node, ast.ClassDef)]
+
+
+def methods_of(held):
+    return [node.name for node in held.body if isinstance(node, ast.FunctionDef)]
+
+
+def own_methods():
+    """The names of all methods of the package's classes."""
+    return {name for held in classes() for name in methods_of(held)} - {"__init__"}
+
+
+def own_values():
+    """The names of all values that the package's classes give their objects."""
+    return {node.attr for held in classes() for node in ast.walk(held)
+            if isinstance(node, ast.Attribute) and isinstance(node.ctx, ast.Store)}
 
 
 def names_at_top(tree):
@@ -146,7 +173,51 @@ class Language(unittest.TestCase):
         for path in FILES:
             for node in ast.walk(ast.parse(path.read_text())):
                 if isinstance(node, ast.Call) and isinstance(node.func, ast.Attribute):
-                    self.assertIn(node.func.attr, METHODS, (path, node.lineno))
+                    self.assertIn(node.func.attr, METHODS | own_methods(), (path, node.lineno))
+
+    def test_classes(self):
+        for held in classes():
+            self.assertLessEqual(len(held.bases), 1, held.name)
+            self.assertEqual((held.decorator_list, held.keywords), ([], []), held.name)
+            self.assertIsNotNone(ast.get_docstring(held), held.name)
+            self.assertTrue(all(isinstance(node, ast.FunctionDef) for node in held.body[1:]), held.name)
+            self.assertEqual(len(methods_of(held)), len(set(methods_of(held))), held.name)
+
+    def test_methods_and_values_of_classes(self):
+        self.assertEqual(own_methods() & own_values(), set())
+        self.assertEqual((own_methods() | own_values()) & PYTHONS_OWN, set())
+        for path in FILES:
+            for node, holder in with_parents(ast.parse(path.read_text())):
+                if isinstance(node, ast.Attribute) and not (isinstance(holder, ast.Call) and holder.func is node):
+                    self.assertIn(node.attr, own_values(), (path, node.lineno))
+
+    def test_statements_and_parameters(self):
+        for path in FILES:
+            for node in ast.walk(ast.parse(path.read_text())):
+                where = (path, getattr(node, "lineno", 0))
+                if isinstance(node, ast.stmt):
+                    self.assertIsInstance(node, STATEMENTS, where)
+                if isinstance(node, (ast.For, ast.While)):
+                    self.assertEqual(node.orelse, [], where)
+                if isinstance(node, ast.arguments):
+                    self.assertEqual((node.vararg, node.kwarg, node.posonlyargs, node.defaults), (None, None, [], []))
+                if isinstance(node, ast.Raise):
+                    self.assertIsInstance(node.exc, ast.Call, where)
+                    self.assertIsInstance(node.exc.func, ast.Name, where)
+                if isinstance(node, ast.FormattedValue):
+                    self.assertIsNone(node.format_spec, where)
+                if isinstance(node, (ast.Starred, ast.Pow)):
+                    self.fail(where)
+
+    def test_names_that_are_not_used(self):
+        for path in FILES:
+            for node in ast.walk(ast.parse(path.read_text())):
+                for name in [getattr(node, field, None) for field in ("id", "attr", "arg", "name")]:
+                    self.assertNotIn(name, NAMES_OUT, path)
+
+    def test_escapes(self):
+        for path in FILES:
+            self.assertEqual(set(re.findall(r"\\.", path.read_text())) - {"\\n", "\\t"}, set(), path)
 
     def test_is_stands_beside_none_true_and_false(self):
         for path in FILES:

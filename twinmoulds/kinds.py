@@ -1,10 +1,11 @@
-"""The plain kinds that all modules share: marks, moulds and days as numbers, and what rises."""
+"""The plain kinds that all modules share: marks, moulds, days and sorts as numbers, and what rises."""
 
-from twinmoulds.errors import NoDay, NoMould
+from twinmoulds.errors import NoDay, NoMould, NoSort
 
 MARKS = 8
 MOULDS = 4
 DAYS = 31
+SORTS = 3
 
 
 def is_number(thing):
@@ -48,3 +49,9 @@ def need_day(thing):
     """Refuse what is no day."""
     if not is_day(thing):
         raise NoDay("a day is a whole number from 0 to 30")
+
+
+def need_sort(thing):
+    """Refuse what is no sort."""
+    if not is_below(thing, SORTS):
+        raise NoSort("a sort is a whole number from 0 to 2")

@@ -1,6 +1,6 @@
 """Marks, sheets and pages, the faults of laid pages, and books."""
 
-from twinmoulds.errors import NoBook, NoMarks, NoSheet
+from twinmoulds.errors import NoBook, NoMarks, NoPage, NoSheet
 from twinmoulds.kinds import DAYS, MARKS, MOULDS, is_day, is_mark, is_mould, is_rising
 
 PAGES = 24
@@ -110,6 +110,12 @@ def need_sheet(thing):
     """Refuse what is no sheet."""
     if not is_sheet(thing):
         raise NoSheet("a sheet is a tuple of two marks, no mark in both")
+
+
+def need_page(thing):
+    """Refuse what is no page."""
+    if not is_page(thing):
+        raise NoPage("a page is a tuple of made or mended, a mould, a day, and a sheet or a mark")
 
 
 def need_book(thing):
